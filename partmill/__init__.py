@@ -1,0 +1,1 @@
+"""Partmill: great numbers multiplied by parts, each way a row of small steps."""

@@ -9,6 +9,14 @@ class Maker:
         self.m = m
         self.steps = []
 
+    def firsts(self):
+        """The cells of the first strip."""
+        return list(range(self.n))
+
+    def seconds(self):
+        """The cells of the second strip."""
+        return list(range(self.n, self.n + self.m))
+
     def put(self, word, left, right):
         """Puts a step behind the others; the cell that it makes."""
         self.steps.append((word, left, right))
@@ -20,6 +28,15 @@ class Maker:
         for cell in cells[1:]:
             total = self.put("plus", total, cell)
         return total
+
+    def laid(self, many, blocks):
+        """So many outs of blocks (begin, cells), each laid from out begin on; what is beyond is left out."""
+        places = [[] for place in range(many)]
+        for begin, cells in blocks:
+            for at, cell in enumerate(cells):
+                if begin + at < many:
+                    places[begin + at].append(cell)
+        return [self.together(cells) for cells in places]
 
     def work(self, outs):
         """The work of all steps put so far, with these outs."""

@@ -1,5 +1,6 @@
 """Plans: for each size the way in which strips of it are multiplied."""
 
+from partmill.cutting import part_sizes
 from partmill.kinds import is_whole
 
 
@@ -7,13 +8,18 @@ def may_cut(n, p):
     """Whether a size may be cut in p parts, so that something is left for the last one."""
     if not is_whole(p) or p < 2 or p > 5:
         return False
-    full = (n + p - 1) // p
-    return n - (p - 1) * full >= 1
+    full, last = part_sizes(n, p)
+    return last >= 1
+
+
+def ways(n):
+    """All ways that strips of n numbers may have, from the least on."""
+    return [1] + [p for p in range(2, 6) if may_cut(n, p)]
 
 
 def is_way(n, thing):
     """Whether a thing is a way for strips of n numbers."""
-    return is_whole(thing) and (thing == 1 or may_cut(n, thing))
+    return is_whole(thing) and thing in ways(n)
 
 
 def is_plan(thing):

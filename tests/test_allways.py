@@ -6,13 +6,7 @@ from partmill.allways import all_products, all_squares
 from partmill.looking import shows_product, shows_square
 from partmill.strips import product
 from partmill.works import counted, is_work, ran
-from tests.things import all_whole, chance, some_strip
-
-
-def told_parts(work):
-    """All numbers of a work, its words left out."""
-    n, m, steps, outs = work
-    return (n, m, tuple(step[1:] for step in steps), outs)
+from tests.things import all_whole, chance, some_strip, told_parts
 
 
 class AllProducts(unittest.TestCase):

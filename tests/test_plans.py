@@ -3,25 +3,8 @@
 import unittest
 
 from partmill.plans import is_plan, may_cut
+from tests.reckoned import may_be_cut, some_plan, some_ways
 from tests.things import chance, deep_things, flat_things, no_numbers, put_at
-
-
-def plain_may_cut(n, p):
-    """Whether full parts of h cells leave one cell or more, h the least with p * h no less than n."""
-    if p not in (2, 3, 4, 5):
-        return False
-    h = 0
-    while p * h < n:
-        h += 1
-    return n - (p - 1) * h >= 1
-
-
-def ways(n):
-    return [1] + [p for p in (2, 3, 4, 5) if plain_may_cut(n, p)]
-
-
-def some_plan(luck, many):
-    return tuple(luck.choice(ways(n)) for n in range(1, many + 1))
 
 
 class MayCut(unittest.TestCase):
@@ -30,7 +13,7 @@ class MayCut(unittest.TestCase):
             for p in range(-3, 12):
                 if n == 10 ** 6 and p > 1:
                     continue
-                self.assertIs(may_cut(n, p), plain_may_cut(n, p), (n, p))
+                self.assertIs(may_cut(n, p), may_be_cut(n, p), (n, p))
 
     def test_sizes_where_nothing_is_left(self):
         left_none = {
@@ -71,7 +54,7 @@ class IsPlan(unittest.TestCase):
         for n in range(1, 65):
             ahead = some_plan(luck, n - 1)
             for way in range(-2, 9):
-                self.assertIs(is_plan(ahead + (way,)), way in ways(n), (n, way))
+                self.assertIs(is_plan(ahead + (way,)), way in some_ways(n), (n, way))
 
     def test_a_wrong_way_at_any_place(self):
         luck = chance(66)

@@ -61,6 +61,12 @@ def all_whole(thing):
     return type(thing) is int
 
 
+def told_parts(work):
+    """All numbers of a work, its words left out."""
+    n, m, steps, outs = work
+    return (n, m, tuple(step[1:] for step in steps), outs)
+
+
 def chance(seed):
     """Numbers that look like chance and are the same at each run."""
     return Random(seed)

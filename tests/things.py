@@ -2,6 +2,12 @@
 
 from random import Random
 
+from partmill.errors import (
+    Below, MillError, NoDivisor, NoLine, NoRoot, NoText, Shared, TooGreat, Uneven, Unfit,
+)
+
+REFUSALS = (Below, NoDivisor, NoRoot, TooGreat, NoText, NoLine, Uneven, Unfit, Shared)
+
 
 def nested(inner, wrap, depth=30):
     for unused in range(depth):
@@ -47,6 +53,19 @@ def flat_things():
 def no_numbers():
     """Things that stand for no whole number."""
     return flat_things() + deep_things() + [(), (1,)]
+
+
+def refused(test, kind, asked, *told):
+    """The refusal of a call: of this kind and of no other, and the same when asked again."""
+    with test.assertRaises(MillError) as caught:
+        asked(*told)
+    refusal = caught.exception
+    test.assertIsInstance(refusal, ValueError)
+    test.assertEqual([other for other in REFUSALS if isinstance(refusal, other)], [kind])
+    with test.assertRaises(kind) as again:
+        asked(*told)
+    test.assertEqual(vars(again.exception), vars(refusal))
+    return refusal
 
 
 def put_at(row, at, thing):

@@ -24,3 +24,19 @@ def power_rest(modulus, number, many):
         many = many // 2
         square = square * square % modulus
     return told
+
+
+def power_rests(modulus, number, many):
+    """The rests by the modulus, from 2, of so many powers of a number, from the power of 0 on."""
+    told = [1]
+    while len(told) < many:
+        told.append(told[-1] * number % modulus)
+    return told
+
+
+def twos(least):
+    """1, 2, 4 and on by twice, up to the first that is least or more."""
+    told = [1]
+    while told[-1] < least:
+        told.append(2 * told[-1])
+    return told

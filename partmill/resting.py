@@ -45,9 +45,8 @@ def mixed_number(moduli, digits):
     return number
 
 
-def mixed(moduli, rests):
-    """The digits, each below its modulus, of the number with these rests."""
-    refuse_shared(moduli)
+def unshared_digits(moduli, rests):
+    """The digits of the number with these rests, of moduli that are known to share nothing."""
     digits = []
     number = 0
     ahead = 1
@@ -57,6 +56,12 @@ def mixed(moduli, rests):
         number += digit * ahead
         ahead = ahead * modulus
     return tuple(digits)
+
+
+def mixed(moduli, rests):
+    """The digits, each below its modulus, of the number with these rests."""
+    refuse_shared(moduli)
+    return unshared_digits(moduli, rests)
 
 
 def put_back(moduli, rests):

@@ -4,31 +4,11 @@ import unittest
 
 from partmill.errors import NoRoot
 from partmill.fields import is_prime, is_root, root
+from tests.primes import order, sieve
 from tests.things import all_whole, chance, no_numbers, refused
-
-
-def sieve(most):
-    """All primes to most."""
-    told = [True] * (most + 1)
-    told[:2] = [False, False]
-    for at in range(2, most + 1):
-        if told[at]:
-            for more in range(at * at, most + 1, at):
-                told[more] = False
-    return [at for at in range(most + 1) if told[at]]
-
 
 PRIMES = sieve(5000)
 SMALL = PRIMES[:25]
-
-
-def order(p, w):
-    """The least number from 1 of w's that come to the rest 1, for w from 1 to below p."""
-    many, told = 1, w % p
-    while told != 1:
-        told = told * w % p
-        many += 1
-    return many
 
 
 class IsPrime(unittest.TestCase):

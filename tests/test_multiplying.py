@@ -6,16 +6,9 @@ from partmill.bests import best
 from partmill.multiplying import multiplied, squared, through
 from partmill.rows import number_of, row_of
 from tests.reckoned import greatest_ways, ones, some_plan, some_ways, with_top
-from tests.things import all_whole, chance
+from tests.things import all_whole, chance, some_row
 
 BASES = (2, 3, 10, 1000, 10 ** 6)
-
-
-def some_row(luck, base, many):
-    """A row of just so many figures."""
-    if many == 0:
-        return ()
-    return tuple(luck.randrange(base) for unused in range(many - 1)) + (luck.randrange(1, base),)
 
 
 def greatest_row(base, many):

@@ -7,7 +7,7 @@ import unittest
 from partmill.errors import Shared, TooGreat
 from partmill.resting import by_rests, mixed, put_back, rests, shared, shows_mixed
 from partmill.rows import number_of, row_of
-from tests.things import all_whole, chance, deep_things, flat_things, no_numbers, put_at, refused
+from tests.things import all_whole, chance, deep_things, flat_things, no_numbers, put_at, refused, some_row
 
 FORTY = tuple(number for number in range(999000, 10 ** 6) if all(number % p for p in range(2, 1000)))[:40]
 UNSHARED = (
@@ -189,14 +189,11 @@ class ShowsMixed(unittest.TestCase):
 
 
 class ByRests(unittest.TestCase):
-    def some_row(self, luck, base, many):
-        return row_of(base, luck.randrange(base ** (many - 1), base ** many)) if many else ()
-
     def test_products(self):
         luck = chance(200)
         for base in (2, 10, 997, 10 ** 6):
             for n, m in ((0, 0), (0, 1), (3, 0), (1, 1), (1, 5), (4, 2), (9, 9), (19, 20), (20, 20)):
-                one, other = self.some_row(luck, base, n), self.some_row(luck, base, m)
+                one, other = some_row(luck, base, n), some_row(luck, base, m)
                 moduli = (10 ** 6 + 1,) + FORTY
                 while math.prod(moduli) // moduli[-1] > base ** (n + m):
                     moduli = moduli[:-1]

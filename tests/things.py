@@ -98,3 +98,10 @@ def some_number(luck, figures):
 
 def some_strip(luck, many, figures=4):
     return tuple(some_number(luck, figures) for unused in range(many))
+
+
+def some_row(luck, base, many):
+    """A row of just so many figures."""
+    if many == 0:
+        return ()
+    return tuple(luck.randrange(base) for unused in range(many - 1)) + (luck.randrange(1, base),)

@@ -5,23 +5,12 @@ import unittest
 from partmill.carrying import carried, shows_carried
 from partmill.errors import Below
 from tests.things import (
-    all_whole, chance, deep_things, flat_things, no_numbers, put_at, refused, some_number, some_strip,
+    all_whole, chance, deep_things, figures_of, flat_things, no_numbers, number_told, put_at, refused, some_number,
+    some_strip,
 )
 
 BASES = (2, 3, 10, 16, 1000, 10 ** 6)
 GREAT = 10 ** 60 - 1
-
-
-def number_told(base, strip):
-    return sum(number * base ** at for at, number in enumerate(strip))
-
-
-def figures_of(base, number):
-    figures = []
-    while number:
-        number, figure = divmod(number, base)
-        figures.append(figure)
-    return tuple(figures)
 
 
 def carries_of(base, strip):

@@ -6,20 +6,16 @@ from partmill.errors import NoDivisor
 from partmill.nearing import nears, shows_nears
 from partmill.rows import row_of
 from tests.things import (
-    all_whole, chance, deep_things, flat_things, no_numbers, put_at, refused, some_row,
+    all_whole, chance, deep_things, flat_things, no_numbers, number_told, put_at, refused, some_row,
 )
 
 BASES = (2, 3, 10, 16, 1000, 10 ** 6)
 LEASTS = (1, 2, 3, 4, 5, 8, 9, 90)
 
 
-def value_of(base, row):
-    return sum(figure * base ** at for at, figure in enumerate(row))
-
-
 def reckoned_nears(base, row, least):
     """Each number reckoned for itself."""
-    n, v = len(row), value_of(base, row)
+    n, v = len(row), number_told(base, row)
     told = []
     s = 1
     while True:

@@ -105,3 +105,17 @@ def some_row(luck, base, many):
     if many == 0:
         return ()
     return tuple(luck.randrange(base) for unused in range(many - 1)) + (luck.randrange(1, base),)
+
+
+def number_told(base, strip):
+    """The number that a row or a strip tells."""
+    return sum(number * base ** at for at, number in enumerate(strip))
+
+
+def figures_of(base, number):
+    """The row of a number."""
+    figures = []
+    while number:
+        number, figure = divmod(number, base)
+        figures.append(figure)
+    return tuple(figures)

@@ -96,9 +96,8 @@ def word_of(sign):
 
 
 def read_step(sign, left, right):
-    """The step that three words tell."""
-    word = word_of(sign)
-    return word, read_number(left), read_signed(right) if word == "by" else read_number(right)
+    """What three words tell; whether the number behind may be below nought is left to is_work."""
+    return word_of(sign), read_number(left), read_signed(right)
 
 
 def read_work(text):

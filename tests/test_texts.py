@@ -113,6 +113,19 @@ class RowTexts(unittest.TestCase):
         ):
             refused(self, NoText, read_row, 10, text)
 
+    def test_each_sign(self):
+        for sign in map(chr, [10, *range(32, 127)]):
+            for text in (sign, f"1{sign}", f"{sign}1", f"1{sign}1", f"1.{sign}", f"1.1{sign}.1"):
+                wanted = reckoned_row(1000, text)
+                if wanted is None:
+                    refused(self, NoText, read_row, 1000, text)
+                else:
+                    self.assertEqual(read_row(1000, text), wanted)
+                    self.assertIn(sign, "0123456789.-")
+            if not sign.isdigit():
+                refused(self, NoText, read_work, f"work 1{sign} 0 : 0")
+                refused(self, NoText, read_plan, f"1.1{sign}")
+
     def test_anything(self):
         for thing in no_texts():
             refused(self, NoText, read_row, 10, thing)
@@ -225,7 +238,8 @@ class WorkTexts(unittest.TestCase):
 
     def test_words(self):
         for text in (
-            "work", "work 1", "work 1 0", "work 1 0 0", "work : 0", "work 1 : 0", "work 1 0 1 : 0", ": 0", "1 0 : 0", "Work 1 0 : 0",
+            "work", "work 1", "work 1 0", "work 1 0 0", "work :", "work 1 :", "work 1 0 :", "work 1 0 + :", "work 1 0 + 0 :",
+            "work 1 0 + 0 0 :", "work 1 0 x", "work 1 0 x 0", "work 1 0 x 0 0", "work : 0", "work 1 : 0", "work 1 0 1 : 0", ": 0", "1 0 : 0", "Work 1 0 : 0",
             "WORK 1 0 : 0", "works 1 0 : 0", "work1 0 : 0", "work 1 0: 0", "work 1 0 :0", "work 1 0 : 0 :", "work 1 0 : : 0",
             "work 1 0 : 0 : 0", "work 1 0 : 0 work", "work 1 0 : 0 0 x", "work 1 0 + 0 : 0", "work 1 0 + 0 0 0 : 0", "work 1 0 + : 0",
             "work 1 0 plus 0 0 : 0", "work 1 0 times 0 0 : 0", "work 1 0 X 0 0 : 0", "work 1 0 % 0 0 : 0", "work 1 0 0 + 0 : 0",
